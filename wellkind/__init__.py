@@ -1,0 +1,1 @@
+"""Wellkind: a small language whose checked expressions are never stuck."""
