@@ -146,6 +146,49 @@ class Form(unittest.TestCase):
                 names = bound(self.trees[where.split(":")[0]])
                 self.assertTrue(node.id in names or node.id in BUILT_IN, f"{where} {node.id}")
 
+    def test_no_local_is_called_like_a_class_or_an_import(self):
+        for entry, tree in self.trees.items():
+            tops = [node.name for node in tree.body if isinstance(node, ast.ClassDef)]
+            for node in tree.body:
+                if isinstance(node, ast.ImportFrom):
+                    tops.extend(alias.name for alias in node.names)
+            locals_of = [node.arg for node in ast.walk(tree) if isinstance(node, ast.arg)] + [
+                node.id for node in ast.walk(tree) if isinstance(node, ast.Name) and isinstance(node.ctx, ast.Store)]
+            self.assertEqual([name for name in locals_of if name in tops], [], entry)
+
+    def test_values_of_objects(self):
+        methods = {node.name for where, node in self.nodes() if isinstance(node, ast.FunctionDef)}
+        taken = {name for sort in (str, int, list, dict, set, bytes) for name in dir(sort)} | methods
+        for where, node in self.nodes():
+            if isinstance(node, ast.Attribute) and isinstance(node.ctx, ast.Store):
+                self.assertIsInstance(node.value, ast.Name, where)
+                self.assertNotIn(node.attr, taken, where)
+
+    def test_classes(self):
+        for where, node in self.nodes():
+            if isinstance(node, ast.ClassDef):
+                self.assertLessEqual(len(node.bases), 1, where)
+                self.assertEqual(node.keywords, [], where)
+                for row in node.body:
+                    self.assertIsInstance(row, (ast.FunctionDef, ast.Pass), where)
+
+    def test_nothing_is_walked_later(self):
+        """zip, reversed and their like stand behind `in` or first in list, tuple and so on."""
+        for where, node in self.nodes():
+            on_the_spot = []
+            if isinstance(node, (ast.For, ast.comprehension)):
+                on_the_spot = [node.iter]
+            elif isinstance(node, ast.Call) and isinstance(node.func, ast.Name):
+                if node.func.id in ("list", "tuple", "dict", "sorted", "sum", "any", "all", "enumerate", "zip"):
+                    on_the_spot = node.args[:1]
+            for child in on_the_spot:
+                child.walked = True
+        for where, node in self.nodes():
+            if isinstance(node, ast.Call):
+                called = node.func.id if isinstance(node.func, ast.Name) else node.func.attr
+                if called in ("zip", "enumerate", "reversed", "range", "items", "keys", "values"):
+                    self.assertTrue(getattr(node, "walked", False), where)
+
     def test_methods(self):
         own = {node.name for where, node in self.nodes() if isinstance(node, ast.FunctionDef)}
         for where, node in self.nodes():
