@@ -10,7 +10,7 @@ another one.
 """
 
 from wellkind.errors import Stuck, Tired
-from wellkind.values import Chain, Closure, Known, given_back, known_from, opened, taken
+from wellkind.holding import Chain, Closure, Known, given_back, known_from, opened, taken
 
 BEGIN = 0
 END = 1
